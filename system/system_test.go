@@ -243,7 +243,7 @@ func TestP31_2EventsComeAheadOfTheStep(t *testing.T) {
 	if before == after || !strings.Contains(after, "0 0 0 0 0 9") || len(after) != len(before)+1 {
 		t.Errorf("a halted guest's devices: %q, %q", before, after)
 	}
-	if before[:490] != after[:490] {
+	if before[:506] != after[:506] {
 		t.Error("a halted guest's hart")
 	}
 }
@@ -615,7 +615,7 @@ func TestP31_4And5Frames(t *testing.T) {
 				if !is && now.Halted != 0 {
 					t.Fatalf("guest %d isn't halted, and counts %+v", g, now)
 				}
-				hart := s.Guest(uint8(g))[:490] // its registers and its state, which no event changes
+				hart := s.Guest(uint8(g))[:506] // its registers and its state, which no event changes
 				if was, ok := halted[uint8(g)]; ok && was != hart {
 					t.Fatalf("guest %d is halted, and its hart changes", g)
 				}
