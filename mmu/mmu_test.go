@@ -305,6 +305,14 @@ func TestP25_3ManyBytesWritten(t *testing.T) {
 	}
 	x.m.Wrote(base+0x100, 0x2f00)
 	x.load(s, api.S, 8, 8, 0, trap(13, 8))
+	// A word far behind the first 4096 bytes that are told: the leaf of the page 2, at 0x2010.
+	x.tables(v | r | w | xx | a | d)
+	x.load(s, api.S, 0x2008, 8, 0, api.Trap{})
+	for i := 0x1008; i < 0x2018; i++ {
+		x.p.b[i] = 0
+	}
+	x.m.Wrote(base+0x1008, 0x1010)
+	x.load(s, api.S, 0x2008, 8, 0, trap(13, 0x2008))
 }
 
 func TestP25_3OtherStates(t *testing.T) {

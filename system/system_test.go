@@ -382,6 +382,20 @@ func TestP31_2Channels(t *testing.T) {
 	}
 }
 
+func TestP31_2AgesAreGlobalSteps(t *testing.T) {
+	// The guest sends at its step 5, and receives that itself at its steps 6 and 11; it puts the ages out, and at last the status.
+	self := program(t, "lui x5,65539", "addi x6,x0,1", "addi x7,x0,2", "lui x9,65536", "sw x6,4(x5)", "sw x6,16(x5)",
+		"sw x7,272(x5)", "lw x8,264(x5)", "sb x8,0(x9)", "addi x0,x0,0", "addi x0,x0,0", "sw x7,272(x5)", "lw x8,264(x5)", "sb x8,0(x9)", "lw x8,256(x5)", "sb x8,0(x9)", "jal x0,0")
+	c := config.Config{
+		Guests:   []api.Guest{policy(0, 0)},
+		Windows:  []api.Window{win(0, 1), win(api.Nobody, 2)},
+		Channels: []api.Channel{{Kind: 0, Guest: 0, Port: 0, Most: 4, Validity: 10, To: []api.End{end(0, 1)}}},
+	}
+	s := fresh(t, c, []image.Image{self})
+	s.Run(60)
+	traced(t, s, "24 0 sent 3; 39 0 sent 18; 45 0 sent 5")
+}
+
 // mirror is a system that is made of the parts by hand.
 type mirror struct {
 	c        config.Config
@@ -490,12 +504,12 @@ func (r *random) below(n uint64) uint64 {
 
 // someImage is a random program among those that use serial line, ports, timer, block device and watchdog, and fail.
 func someImage(t *testing.T, r *random) image.Image {
-	lines := []string{"lui x5,65536", "lui x6,65537", "lui x7,65538", "lui x8,65539", "auipc x9,0", "lui x10,8192", "addi x11,x0,65", "addi x12,x0,2"}
+	lines := []string{"lui x5,65536", "lui x6,65537", "lui x7,65538", "lui x8,65539", "auipc x9,0", "lui x10,8192", "addi x11,x0,65", "addi x12,x0,2", "addi x15,x0,1"}
 	some := []string{
 		"sb x11,0(x5)", "sb x11,0(x5)", "sb x11,0(x5)", "addi x11,x11,1", "lbu x13,0(x5)", "sb x12,1(x5)", "addi x11,x11,1", "sb x13,0(x5)", "lbu x14,5(x5)",
 		"sw x12,16(x6)", "sw x13,0(x6)", "sd x9,8(x6)", "sw x0,24(x6)", "lw x14,20(x6)",
 		"sw x0,0(x7)", "lw x14,8(x7)",
-		"sb x11,64(x8)", "sw x12,4(x8)", "addi x15,x0,1", "sw x15,16(x8)", "sw x12,272(x8)", "lb x13,320(x8)", "lw x14,256(x8)", "sw x12,528(x8)", "lw x13,532(x8)",
+		"sb x11,64(x8)", "sw x12,4(x8)", "sw x15,16(x8)", "ld x13,264(x8)", "sw x12,272(x8)", "lb x13,320(x8)", "lw x14,256(x8)", "sw x12,528(x8)", "lw x13,532(x8)",
 		"sw x15,0(x10)", "csrrwi x0,768,8", "csrrw x0,772,x11", "wfi", "ebreak", "ecall", ".word 0", "ld x13,1(x9)", "lw x13,0(x0)",
 		"sb x11,1024(x9)", "lb x13,1024(x9)", "addi x16,x16,1", "amoaddd x13,x9,x0", "jal x0,-16", "jal x0,8", "bne x13,x0,-12", "mret",
 	}
