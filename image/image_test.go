@@ -52,12 +52,15 @@ func (broken) Error() string { return "broken" }
 
 func TestP7_1Fault(t *testing.T) {
 	f := &image.Fault{Field: "entry", At: 4, E: api.ErrAlign}
-	if f.Error() != "entry 4: align" {
+	if f.Error() != "entry at 4: align" {
 		t.Errorf("Error: %q", f.Error())
 	}
 	g := &image.Fault{Field: "sum", At: 12345, E: api.ErrSum}
-	if g.Error() != "sum 12345: sum" {
+	if g.Error() != "sum at 12345: sum" {
 		t.Errorf("Error: %q", g.Error())
+	}
+	if _, err := image.Parse("ALM1"+num(base+1, 8), 1); err == nil || err.Error() != "entry at 4: align" {
+		t.Errorf("the error of Parse of an odd entry: %v", err)
 	}
 	if e, ok := f.Unwrap().(api.Errno); !ok || e != api.ErrAlign {
 		t.Errorf("Unwrap: %v", f.Unwrap())

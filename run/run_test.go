@@ -129,7 +129,7 @@ func TestP32_1Faults(t *testing.T) {
 	}{
 		"magic":           {&run.Fault{Part: "magic", Err: api.ErrTorn}, "magic: torn", api.ErrTorn},
 		"config":          {&run.Fault{Part: "config", Guest: 9, Err: inner}, "config: guest 3: form", api.ErrForm},
-		"image":           {&run.Fault{Part: "image", Guest: 0, Err: &image.Fault{Field: "sum", At: 77, E: api.ErrSum}}, "image 0: sum 77: sum", api.ErrSum},
+		"image":           {&run.Fault{Part: "image", Guest: 0, Err: &image.Fault{Field: "sum", At: 77, E: api.ErrSum}}, "image 0: sum at 77: sum", api.ErrSum},
 		"another image":   {&run.Fault{Part: "image", Guest: 12, Err: api.ErrArg}, "image 12: argument", api.ErrArg},
 		"no number in it": {&run.Fault{Part: "config", Err: broken{}}, "config: broken", api.ErrArg},
 		"a wrapped one":   {fmt.Errorf("more: %w", &run.Fault{Part: "config", Err: inner}), "more: config: guest 3: form", api.ErrForm},
@@ -255,10 +255,10 @@ func TestP32_2Parse(t *testing.T) {
 		"a torn image":               {parts(cfg, nil, le(len(i0), 4)+i0[:5]), "image", 0, api.ErrTorn, "image 0: torn"},
 		"no second image":            {parts(cfg, both[:1], ""), "image", 1, api.ErrTorn, "image 1: torn"},
 		"a torn second image":        {parts(cfg, both, "")[:len(parts(cfg, both, ""))-1], "image", 1, api.ErrTorn, "image 1: torn"},
-		"an image's sum":             {parts(cfg, []string{i0[:len(i0)-1] + "?", i1}, ""), "image", 0, api.ErrSum, fmt.Sprintf("image 0: sum %d: sum", len(i0)-4)},
-		"a second image's magic":     {parts(cfg, []string{i0, "ALMX" + i1[4:]}, ""), "image", 1, api.ErrForm, "image 1: magic 0: form"},
-		"an image of more pages":     {parts(cfg, []string{i1, i1}, ""), "image", 0, api.ErrRange, "image 0: entry 4: range"},
-		"an empty image":             {parts(cfg, []string{"", i1}, ""), "image", 0, api.ErrTorn, "image 0: magic 0: torn"},
+		"an image's sum":             {parts(cfg, []string{i0[:len(i0)-1] + "?", i1}, ""), "image", 0, api.ErrSum, fmt.Sprintf("image 0: sum at %d: sum", len(i0)-4)},
+		"a second image's magic":     {parts(cfg, []string{i0, "ALMX" + i1[4:]}, ""), "image", 1, api.ErrForm, "image 1: magic at 0: form"},
+		"an image of more pages":     {parts(cfg, []string{i1, i1}, ""), "image", 0, api.ErrRange, "image 0: entry at 4: range"},
+		"an empty image":             {parts(cfg, []string{"", i1}, ""), "image", 0, api.ErrTorn, "image 0: magic at 0: torn"},
 		"the configuration is first": {parts(cfg[:9]+"\xff"+cfg[10:], []string{"", ""}, ""), "config", 0, api.ErrSum, "config: sum 0: sum"},
 	} {
 		got, err := run.Parse(c.s)
