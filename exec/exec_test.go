@@ -1,6 +1,7 @@
 package exec_test
 
 import (
+	"slices"
 	"testing"
 
 	"almonry/alu"
@@ -253,18 +254,21 @@ func TestP23_3Addr(t *testing.T) {
 	}
 }
 
+// running is a call of Run, and what it answers.
+type running struct {
+	name  string
+	pc    uint64
+	l     []api.Inst
+	most  int
+	end   uint64
+	steps int
+	ok    bool
+	want  exec.Regs
+}
+
 func TestP23_4Run(t *testing.T) {
 	count := []api.Inst{in(api.ADDI, 1, 1, 0, 1), in(api.BNE, 0, 1, 2, -4), in(api.ADDI, 3, 0, 0, 9)}
-	for _, c := range []struct {
-		name  string
-		pc    uint64
-		l     []api.Inst
-		most  int
-		end   uint64
-		steps int
-		ok    bool
-		want  exec.Regs
-	}{
+	for _, c := range []running{
 		{"to the end", 0, count, 1000, 12, 21, true, exec.Regs{1: 10, 2: 10, 3: 9}},
 		{"as many as may be", 0, count, 21, 12, 21, true, exec.Regs{1: 10, 2: 10, 3: 9}},
 		{"one fewer", 0, count, 20, 8, 20, false, exec.Regs{1: 10, 2: 10}},
@@ -292,5 +296,39 @@ func TestP23_4Run(t *testing.T) {
 	}
 	if end, steps, ok := exec.Run(nil, 0, count, 9); end != 12 || steps != 3 || !ok { // both registers hold 0
 		t.Errorf("of nil: %d, %d, %v", end, steps, ok)
+	}
+}
+
+// sized is a list whose instructions all say that they are of a size.
+func sized(size uint8, l ...api.Inst) []api.Inst {
+	for i := range l {
+		l[i].Size = size
+	}
+	return l
+}
+
+func TestP23_4EachIsOf4Bytes(t *testing.T) {
+	countdown := []api.Inst{in(api.ADDI, 3, 0, 0, 3), in(api.ADDI, 3, 3, 0, -1), in(api.ADDI, 4, 4, 0, 2), in(api.BNE, 0, 3, 0, -8)}
+	links := []api.Inst{in(api.JAL, 1, 0, 0, 8), in(api.JAL, 5, 0, 0, 8), in(api.JALR, 6, 1, 0, 0), in(api.AUIPC, 7, 0, 0, 0)}
+	for size := range 256 {
+		for _, c := range []running{
+			{"one of two", 4, []api.Inst{{}, {Op: api.LUI}}, 1, 8, 1, true, exec.Regs{}},
+			{"a countdown", 0, countdown, 100, 16, 10, true, exec.Regs{4: 6}},
+			{"a branch that is not taken", 0, []api.Inst{in(api.BNE, 0, 0, 0, 8), in(api.ADDI, 3, 0, 0, 1)}, 9, 8, 2, true, exec.Regs{3: 1}},
+			{"links", 0, links, 9, 16, 4, true, exec.Regs{1: 4, 5: 8, 6: 12, 7: 12}},
+			{"another class", 0, []api.Inst{in(api.ADDI, 3, 0, 0, 1), in(api.LW, 3, 0, 0, 0)}, 9, 4, 1, false, exec.Regs{3: 1}},
+			{"as many as may be", 0, countdown, 2, 8, 2, false, exec.Regs{3: 2}},
+		} {
+			l := sized(uint8(size), append([]api.Inst(nil), c.l...)...)
+			before := append([]api.Inst(nil), l...)
+			r := exec.Regs{}
+			end, steps, ok := exec.Run(&r, c.pc, l, c.most)
+			if end != c.end || steps != c.steps || ok != c.ok || r != c.want {
+				t.Errorf("%s, size %d: %#x, %d, %v, %v; want %#x, %d, %v, %v", c.name, size, end, steps, ok, r, c.end, c.steps, c.ok, c.want)
+			}
+			if !slices.Equal(l, before) {
+				t.Errorf("%s, size %d: what was handed in was changed", c.name, size)
+			}
+		}
 	}
 }
